@@ -1,0 +1,1 @@
+"""Cubesums: a cube that stores sums, and what these sums determine."""

@@ -1,0 +1,165 @@
+"""Point 3, the interface's names and arguments, and what can be checked of the language's rules."""
+
+import ast
+import builtins
+import copy
+import doctest
+import inspect
+import unittest
+from importlib import import_module
+from pathlib import Path
+
+from cubesums import groupings
+from samples import sample_spaces
+
+ROOT = Path(__file__).resolve().parent.parent
+PACKAGE = ROOT / "cubesums"
+LIBRARY = {
+    "heapq": {"heappush", "heappop", "heapify", "heapreplace", "heappushpop"},
+    "math": {"gcd", "lcm", "isqrt", "comb", "perm", "factorial"},
+    "collections": {"defaultdict", "deque"},
+}
+BUILTINS = set(
+    "len range enumerate zip map min max sum abs sorted reversed int str bool list tuple dict set isinstance ord repr "
+    "any all divmod pow iter next getattr hasattr setattr type bytes frozenset object property staticmethod "
+    "classmethod super True False None NotImplemented Exception ValueError TypeError KeyError IndexError LookupError "
+    "ZeroDivisionError ArithmeticError OverflowError RuntimeError NotImplementedError AttributeError "
+    "StopIteration".split())
+# Python's prompt, and so doctest, puts the name _ among the builtins.
+OTHER_BUILTINS = set(dir(builtins)) - BUILTINS - {"_"}
+FUNCTIONS = {
+    "space": {"is_word": ["text"]},
+    "groupings": {
+        "check_grouping": ["space", "grouping"], "check_group": ["space", "group"], "all_groupings": ["space"],
+        "groups": ["space", "grouping"], "group_numbers": ["space", "grouping"], "room": ["space", "grouping"],
+        "coarser": ["one", "two"], "meet": ["one", "two"], "join": ["one", "two"], "grouping_of": ["group"],
+        "group_of": ["space", "grouping", "cell"], "group_cells": ["space", "group"],
+        "indicator": ["space", "group"], "in_order": ["space", "some"],
+    },
+}
+METHODS = {
+    ("space", "Space"): {
+        "__init__": ["dimensions"], "depth": ["at"], "members": ["at", "level"], "dimension_at": ["name"],
+        "leaves_of": ["at", "path"], "parts": ["cell"], "coordinates": ["cell"], "cell": ["coordinates"],
+    },
+}
+
+
+def files():
+    """The files of the package."""
+    return sorted(PACKAGE.rglob("*.py"))
+
+
+def trees():
+    """The file and the syntax tree of each file of the package."""
+    return [(path.name, ast.parse(path.read_text())) for path in files()]
+
+
+class InterfaceTest(unittest.TestCase):
+    def test_functions(self):
+        for name, functions in FUNCTIONS.items():
+            module = import_module("cubesums." + name)
+            for function, arguments in functions.items():
+                with self.subTest(function):
+                    found = getattr(module, function)
+                    self.assertEqual(found.__module__, module.__name__)
+                    self.assertEqual(list(inspect.signature(found).parameters), arguments)
+
+    def test_methods(self):
+        for (name, kind), methods in METHODS.items():
+            module = import_module("cubesums." + name)
+            found = getattr(module, kind)
+            self.assertEqual(found.__module__, module.__name__)
+            for method, arguments in methods.items():
+                with self.subTest(method):
+                    self.assertIn(method, vars(found))
+                    self.assertEqual(list(inspect.signature(vars(found)[method]).parameters)[1:], arguments)
+
+    def test_examples_of_the_readme(self):
+        failed, many = doctest.testfile(str(ROOT / "README.md"), module_relative=False)
+        self.assertEqual(failed, 0)
+        self.assertGreater(many, 0)
+
+
+class ArgumentTest(unittest.TestCase):
+    def test_no_function_changes_the_space(self):
+        for space in sample_spaces():
+            before = copy.deepcopy(vars(space))
+            for grouping in groupings.all_groupings(space):
+                family = groupings.groups(space, grouping)
+                groupings.room(space, grouping)
+                groupings.group_numbers(space, grouping)
+                groupings.in_order(space, family[::-1])
+                for group in family:
+                    groupings.indicator(space, group)
+                for cell in range(space.many):
+                    groupings.group_of(space, grouping, cell)
+            for at, (name, leaves) in enumerate(space.dimensions):
+                self.assertEqual(space.dimension_at(name), at)
+                space.leaves_of(at, leaves[0])
+            self.assertEqual(vars(space), before)
+
+    def test_answers_are_tuples(self):
+        for space in sample_spaces():
+            for grouping in groupings.all_groupings(space):
+                self.assertIs(type(grouping), tuple)
+                family = groupings.groups(space, grouping)
+                found = [family, groupings.group_numbers(space, grouping), groupings.in_order(space, family),
+                         groupings.meet(grouping, grouping), groupings.join(grouping, grouping),
+                         groupings.group_of(space, grouping, 0), groupings.grouping_of(family[0]),
+                         groupings.group_cells(space, family[0]), groupings.indicator(space, family[0]), *family]
+                for at, level in enumerate(grouping):
+                    members = space.members(at, level)
+                    found += [members, space.leaves_of(at, members[0])]
+                self.assertEqual({type(told) for told in found}, {tuple})
+                self.assertIs(type(groupings.room(space, grouping)), int)
+            self.assertIs(type(groupings.all_groupings(space)), tuple)
+
+
+class SourceTest(unittest.TestCase):
+    def test_folder_contains_only_plain_files(self):
+        for path in PACKAGE.rglob("*"):
+            if "__pycache__" not in path.parts and path.is_file():
+                self.assertEqual(path.suffix, ".py", path)
+                self.assertEqual(path.name, path.name.lower())
+
+    def test_sizes_and_characters(self):
+        for path in files():
+            with self.subTest(path.name):
+                text = path.read_text()
+                self.assertTrue(all(sign == "\n" or " " <= sign <= "~" for sign in text))
+                lines = text.splitlines()
+                self.assertLessEqual(len(lines), 399)
+                self.assertLessEqual(max(map(len, lines), default=0), 120)
+
+    def test_functions_are_short(self):
+        for name, tree in trees():
+            for node in ast.walk(tree):
+                if isinstance(node, ast.FunctionDef):
+                    self.assertLessEqual(node.end_lineno - node.lineno + 1, 40, (name, node.name))
+
+    def test_nothing_from_outside_is_imported(self):
+        for name, tree in trees():
+            for node in ast.walk(tree):
+                self.assertNotIsInstance(node, ast.Import, name)
+                if isinstance(node, ast.ImportFrom) and not node.module.startswith("cubesums."):
+                    self.assertIn(node.module, LIBRARY, name)
+                    self.assertLessEqual({found.name for found in node.names}, LIBRARY[node.module], name)
+
+    def test_only_builtins_of_the_subset(self):
+        for name, tree in trees():
+            for node in ast.walk(tree):
+                if isinstance(node, ast.Name):
+                    self.assertNotIn(node.id, OTHER_BUILTINS, name)
+
+    def test_no_floats_and_no_percent_sign_in_strings(self):
+        for name, tree in trees():
+            for node in ast.walk(tree):
+                self.assertNotIsInstance(node, ast.Div, name)
+                if isinstance(node, ast.Constant):
+                    self.assertNotIsInstance(node.value, float, name)
+                    self.assertFalse(isinstance(node.value, str) and "%" in node.value, name)
+
+
+if __name__ == "__main__":
+    unittest.main()
