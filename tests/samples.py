@@ -1,4 +1,6 @@
-"""Dimensions that several tests use."""
+"""Dimensions that several tests use, and the points they rest on, worked out by hand."""
+
+import itertools
 
 from cubesums.space import Space
 
@@ -50,3 +52,23 @@ def members_by_hand(leaves, words):
 def depth_of(leaves):
     """How many words the leaves have."""
     return level(leaves[0])
+
+
+def is_inside(space, cell, group):
+    """Point 10: tell whether a cell is in a group."""
+    return all(belongs(leaf, path) for leaf, path in zip(space.coordinates(cell), group))
+
+
+def all_groups(space):
+    """Each space's groups in order, over all groupings."""
+    depths = [depth_of(leaves) for _, leaves in space.dimensions]
+    found = []
+    for grouping in itertools.product(*[range(depth + 1) for depth in depths]):
+        rows = [members_by_hand(leaves, words) for (_, leaves), words in zip(space.dimensions, grouping)]
+        found.extend(itertools.product(*rows))
+    return found
+
+
+def integers(space, seed=0):
+    """Integers of both signs, one for each cell, with noughts where there are many cells."""
+    return tuple((7 * cell * cell + 3 * cell + seed) % 23 - 11 for cell in range(space.many))

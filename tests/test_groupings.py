@@ -6,8 +6,8 @@ import unittest
 from cubesums import groupings
 from cubesums.errors import BadGrouping, NoSuchGroup
 from cubesums.space import Space
-from samples import CHAIN, MONTH, NEAR, TOWN, belongs, depth_of, example, level, members_by_hand
-from samples import sample_spaces
+from samples import CHAIN, MONTH, NEAR, TOWN, all_groups, depth_of, example, is_inside, level
+from samples import members_by_hand, sample_spaces
 
 WRONG_GROUPINGS = ((), (0,), (2,), (1, 1, 0), (0, 0, 0, 0), (-1, 0), (0, -1), (3, 0), (0, 2), (2, 9), (-1, -1),
                    (-3, 1), (2, -2))
@@ -27,16 +27,6 @@ def groups_by_hand(space, grouping):
     """Point 11: the groups of a grouping, by member of the first dimension first."""
     rows = [members_by_hand(leaves, words) for (_, leaves), words in zip(space.dimensions, grouping)]
     return tuple(itertools.product(*rows))
-
-
-def is_inside(space, cell, group):
-    """Point 10: tell whether a cell is in a group."""
-    return all(belongs(leaf, path) for leaf, path in zip(space.coordinates(cell), group))
-
-
-def families_by_hand(space):
-    """Each space's groups in order, over all groupings."""
-    return [group for grouping in groupings_by_hand(space) for group in groups_by_hand(space, grouping)]
 
 
 class GroupingTest(unittest.TestCase):
@@ -96,7 +86,7 @@ class GroupTest(unittest.TestCase):
 
     def test_check_takes_all_groups(self):
         for space in sample_spaces():
-            for group in families_by_hand(space):
+            for group in all_groups(space):
                 self.assertIsNone(groupings.check_group(space, group))
 
     def test_each_function_refuses_what_is_no_group(self):
@@ -202,7 +192,7 @@ class OrderTest(unittest.TestCase):
 
     def test_all_groups_of_a_space(self):
         for space in sample_spaces():
-            every = families_by_hand(space)
+            every = all_groups(space)
             mixed = every[::-2] + every[::3] + every[::-1]
             self.assertEqual(groupings.in_order(space, tuple(mixed)), tuple(every))
 
@@ -265,7 +255,7 @@ class CellsOfGroupTest(unittest.TestCase):
 
     def test_cells_and_indicators_of_all_groups(self):
         for space in sample_spaces():
-            for group in families_by_hand(space):
+            for group in all_groups(space):
                 inside = [is_inside(space, cell, group) for cell in range(space.many)]
                 cells = tuple(cell for cell in range(space.many) if inside[cell])
                 with self.subTest(group):

@@ -9,8 +9,8 @@ import unittest
 from importlib import import_module
 from pathlib import Path
 
-from cubesums import groupings
-from samples import sample_spaces
+from cubesums import expressions, facts, groupings, questions, vectors
+from samples import integers, sample_spaces
 
 ROOT = Path(__file__).resolve().parent.parent
 PACKAGE = ROOT / "cubesums"
@@ -36,6 +36,18 @@ FUNCTIONS = {
         "group_of": ["space", "grouping", "cell"], "group_cells": ["space", "group"],
         "indicator": ["space", "group"], "in_order": ["space", "some"],
     },
+    "expressions": {"tokens": ["text"], "read_expression": ["text"]},
+    "questions": {"question_of": ["space", "text"], "group_expression": ["space", "group"]},
+    "facts": {
+        "facts_of": ["space", "text"], "facts_text": ["space", "facts"], "totals": ["space", "facts"],
+        "as_facts": ["amounts"], "value": ["question", "amounts"], "sums": ["space", "family", "amounts"],
+    },
+    "vectors": {
+        "fraction": ["top", "bottom"], "plus": ["one", "two"], "minus": ["one", "two"], "times": ["one", "two"],
+        "over": ["one", "two"], "below": ["one", "two"], "fraction_text": ["one"], "as_fractions": ["integers"],
+        "inner": ["first", "second"], "projection": ["space", "grouping", "vector"],
+        "component": ["space", "grouping", "vector"], "primitive": ["vector"],
+    },
 }
 METHODS = {
     ("space", "Space"): {
@@ -53,6 +65,11 @@ def files():
 def trees():
     """The file and the syntax tree of each file of the package."""
     return [(path.name, ast.parse(path.read_text())) for path in files()]
+
+
+def is_plain(answer):
+    """Point 3: tell whether a value is an integer, a string, or a tuple of such throughout."""
+    return type(answer) in (int, str) or type(answer) is tuple and all(map(is_plain, answer))
 
 
 class InterfaceTest(unittest.TestCase):
@@ -98,6 +115,40 @@ class ArgumentTest(unittest.TestCase):
                 self.assertEqual(space.dimension_at(name), at)
                 space.leaves_of(at, leaves[0])
             self.assertEqual(vars(space), before)
+
+    def test_no_function_of_questions_facts_and_vectors_changes_the_space(self):
+        for space in sample_spaces():
+            before = copy.deepcopy(vars(space))
+            amounts = integers(space)
+            vector = vectors.as_fractions(amounts)
+            for grouping in groupings.all_groupings(space):
+                family = groupings.groups(space, grouping)
+                facts.sums(space, family, amounts)
+                vectors.projection(space, grouping, vector)
+                vectors.component(space, grouping, vector)
+                for group in family:
+                    questions.question_of(space, questions.group_expression(space, group))
+            told = facts.as_facts(amounts)
+            self.assertEqual(facts.facts_of(space, facts.facts_text(space, told)), told)
+            self.assertEqual(facts.totals(space, told), amounts)
+            self.assertEqual(vars(space), before)
+
+    def test_all_parts_of_answers_are_plain(self):
+        for space in sample_spaces():
+            amounts = integers(space)
+            vector = vectors.as_fractions(amounts)
+            told = facts.as_facts(amounts)
+            text = f"-2 * sum - (sum where {space.dimensions[0][0]} in {space.dimensions[0][1][0]})"
+            found = [expressions.tokens(text), expressions.read_expression(text), questions.question_of(space, text),
+                     told, facts.facts_text(space, told), facts.facts_of(space, facts.facts_text(space, told)),
+                     facts.totals(space, told), facts.value(amounts, amounts), facts.sums(space, (), amounts), vector,
+                     vectors.inner(vector, vector), vectors.primitive(vector)]
+            for grouping in groupings.all_groupings(space):
+                family = groupings.groups(space, grouping)
+                found += [facts.sums(space, family, amounts), questions.group_expression(space, family[-1]),
+                          vectors.projection(space, grouping, vector), vectors.component(space, grouping, vector)]
+            for answer in found:
+                self.assertTrue(is_plain(answer), answer)
 
     def test_answers_are_tuples(self):
         for space in sample_spaces():
