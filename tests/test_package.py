@@ -9,7 +9,7 @@ import unittest
 from importlib import import_module
 from pathlib import Path
 
-from cubesums import expressions, facts, groupings, questions, vectors
+from cubesums import determinacy, expressions, facts, groupings, needs, questions, realize, vectors
 from samples import integers, sample_spaces
 
 ROOT = Path(__file__).resolve().parent.parent
@@ -47,6 +47,17 @@ FUNCTIONS = {
         "over": ["one", "two"], "below": ["one", "two"], "fraction_text": ["one"], "as_fractions": ["integers"],
         "inner": ["first", "second"], "projection": ["space", "grouping", "vector"],
         "component": ["space", "grouping", "vector"], "primitive": ["vector"],
+    },
+    "determinacy": {
+        "residual": ["space", "family", "question"], "is_determined": ["space", "family", "question"],
+        "answer": ["space", "family", "question"], "value_of": ["space", "family", "sums", "question"],
+        "independent": ["space", "family"], "rank": ["space", "family"],
+    },
+    "realize": {"realize": ["space", "family", "sums"]},
+    "needs": {
+        "family_of": ["space", "groupings"], "missing": ["space", "groupings", "question"],
+        "redundant": ["space", "groupings"], "room_of": ["space", "groupings"], "required": ["space", "questions"],
+        "cheapest": ["space", "questions"], "further": ["space", "family", "questions"],
     },
 }
 METHODS = {
@@ -149,6 +160,27 @@ class ArgumentTest(unittest.TestCase):
                           vectors.projection(space, grouping, vector), vectors.component(space, grouping, vector)]
             for answer in found:
                 self.assertTrue(is_plain(answer), answer)
+
+    def test_what_sums_determine_and_need(self):
+        for space in sample_spaces():
+            before = copy.deepcopy(vars(space))
+            every = groupings.all_groupings(space)
+            stored = (every[1], every[len(every) // 2])
+            family = needs.family_of(space, stored)
+            question = integers(space)
+            wanted = facts.sums(space, family, question)
+            inside = groupings.indicator(space, family[0])
+            found = [family, determinacy.residual(space, family, question), determinacy.rank(space, family),
+                     determinacy.answer(space, family, question), determinacy.answer(space, family, inside),
+                     determinacy.independent(space, family), determinacy.value_of(space, family, wanted, inside),
+                     realize.realize(space, family, wanted), realize.realize(space, family + family[:1], wanted + (7,)),
+                     needs.missing(space, stored, question), needs.redundant(space, every),
+                     needs.room_of(space, stored), needs.required(space, (inside, question)),
+                     needs.cheapest(space, (inside,)), needs.further(space, family, (inside, question))]
+            for answer in found:
+                self.assertTrue(is_plain(answer), answer)
+            self.assertIs(determinacy.is_determined(space, family, inside), True)
+            self.assertEqual(vars(space), before)
 
     def test_answers_are_tuples(self):
         for space in sample_spaces():
