@@ -2,6 +2,7 @@
 
 from cubesums.errors import FaultyText, NoSuchCell, TooLarge
 from cubesums.groupings import group_cells
+from cubesums.lines import lines_of
 from cubesums.numerals import is_signed_numeral
 
 MOST_LINES = 60
@@ -10,11 +11,7 @@ MOST_DIGITS = 9
 
 def facts_of(space, text):
     """Return the facts that a text tells; raise FaultyText or TooLarge if it tells none."""
-    # Behind the last line feed, splitting gives one more string, the empty one.
-    found = text.split("\n")
-    if found[-1] != "":
-        raise FaultyText(len(found))
-    lines = found[:-1]
+    lines = lines_of(text)
     if len(lines) > MOST_LINES:
         raise TooLarge(len(lines))
     return tuple([_fact_of(space, line, number) for number, line in enumerate(lines, start=1)])

@@ -208,7 +208,8 @@ class AnswerTest(unittest.TestCase):
                          ("determined", ((("", "may"), (-3, 1)), (("north", ""), (2, 1)))))
         space, family = halves()
         fractions = ((-1, 2), (1, 2), (1, 2), (-1, 2), (-1, 2), (-1, 2), (1, 2))
-        self.assertEqual(determinacy.answer(space, family, unit(space, 1)), ("determined", tuple(zip(family, fractions))))
+        told = ("determined", tuple(zip(family, fractions)))
+        self.assertEqual(determinacy.answer(space, family, unit(space, 1)), told)
 
     def test_witness_of_a_single_cell(self):
         space = example()

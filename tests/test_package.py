@@ -9,7 +9,9 @@ import unittest
 from importlib import import_module
 from pathlib import Path
 
-from cubesums import determinacy, expressions, facts, groupings, needs, questions, realize, vectors
+from cubesums import (bounds, determinacy, expressions, facts, groupings, needs, questions, realize, secrets, texts,
+                      vectors)
+from cubes import ALL, EXAMPLE, NORTH, REGIONS, SOUTH, contents, started
 from samples import integers, sample_spaces
 
 ROOT = Path(__file__).resolve().parent.parent
@@ -59,11 +61,28 @@ FUNCTIONS = {
         "redundant": ["space", "groupings"], "room_of": ["space", "groupings"], "required": ["space", "questions"],
         "cheapest": ["space", "questions"], "further": ["space", "family", "questions"],
     },
+    "bounds": {
+        "consistent": ["space", "first", "second", "kept"], "least": ["space", "first", "second", "kept", "question"],
+        "greatest": ["space", "first", "second", "kept", "question"], "forced": ["space", "first", "second", "kept"],
+    },
+    "secrets": {
+        "opened_cells": ["space", "family"], "opened_groups": ["space", "family", "grouping"],
+        "withhold": ["space", "family", "questions"],
+    },
+    "texts": {"cube_text": ["cube"], "cube_of": ["text"], "drill": ["cube", "names", "open_too"]},
 }
 METHODS = {
     ("space", "Space"): {
         "__init__": ["dimensions"], "depth": ["at"], "members": ["at", "level"], "dimension_at": ["name"],
         "leaves_of": ["at", "path"], "parts": ["cell"], "coordinates": ["cell"], "cell": ["coordinates"],
+    },
+    ("cube", "Cube"): {
+        "__init__": ["dimensions", "stored"], "__iter__": [], "__len__": [], "dimensions": [], "stored": [],
+        "copy_of": [], "insert": ["facts"], "store": ["chosen"], "drop": ["chosen"], "merge": ["other"],
+        "back": ["number"], "watch": ["text"], "unwatch": ["text"], "watched": [], "mark": [], "marks": [],
+        "compare": ["number"], "since": ["number", "text"], "value": ["text"], "ask": ["text"], "example": [],
+        "whole": [], "missing": ["text"], "required": ["texts"], "cheapest": ["texts"], "further": ["texts"],
+        "withhold": ["texts"], "opened": [], "bounds": ["first", "second", "text"], "forced": ["first", "second"],
     },
 }
 
@@ -79,8 +98,8 @@ def trees():
 
 
 def is_plain(answer):
-    """Point 3: tell whether a value is an integer, a string, or a tuple of such throughout."""
-    return type(answer) in (int, str) or type(answer) is tuple and all(map(is_plain, answer))
+    """Point 3: tell whether a value is an integer, a string, True, False, None, or a tuple of such throughout."""
+    return type(answer) in (int, str, bool, type(None)) or type(answer) is tuple and all(map(is_plain, answer))
 
 
 class InterfaceTest(unittest.TestCase):
@@ -92,6 +111,10 @@ class InterfaceTest(unittest.TestCase):
                     found = getattr(module, function)
                     self.assertEqual(found.__module__, module.__name__)
                     self.assertEqual(list(inspect.signature(found).parameters), arguments)
+
+    def test_argument_by_keyword(self):
+        found = inspect.signature(texts.drill).parameters["open_too"]
+        self.assertEqual((found.kind, found.default), (inspect.Parameter.KEYWORD_ONLY, True))
 
     def test_methods(self):
         for (name, kind), methods in METHODS.items():
@@ -181,6 +204,65 @@ class ArgumentTest(unittest.TestCase):
                 self.assertTrue(is_plain(answer), answer)
             self.assertIs(determinacy.is_determined(space, family, inside), True)
             self.assertEqual(vars(space), before)
+
+    def test_bounds_and_secrets(self):
+        for space in sample_spaces():
+            before = copy.deepcopy(vars(space))
+            every = groupings.all_groupings(space)
+            first, second = every[1], every[len(every) // 2]
+            amounts = tuple(abs(amount) for amount in integers(space))
+            kept = tuple(facts.sums(space, groupings.groups(space, one), amounts) for one in (first, second))
+            family = needs.family_of(space, (first, second))
+            found = [bounds.consistent(space, first, second, kept), bounds.forced(space, first, second, kept),
+                     bounds.least(space, first, second, kept, integers(space)),
+                     bounds.greatest(space, first, second, kept, integers(space)),
+                     secrets.opened_cells(space, family), secrets.opened_groups(space, family, first),
+                     secrets.withhold(space, family[:6], (integers(space), groupings.indicator(space, family[0]))),
+                     secrets.withhold(space, family[:6], ((0,) * space.many,))]
+            for answer in found:
+                self.assertTrue(is_plain(answer), answer)
+            self.assertEqual(vars(space), before)
+
+    def answers(self, cube):
+        """What a cube tells without being changed."""
+        oslo = "sum where town in north/oslo"
+        return (cube.dimensions(), cube.stored(), cube.watched(), cube.marks(), cube.compare(0), cube.since(0, "sum"),
+                cube.value("sum"), cube.ask("sum"), cube.ask(oslo), cube.example(), cube.whole(), cube.missing(oslo),
+                cube.required(("sum", oslo)), cube.cheapest(("sum", oslo)), cube.further(("sum", oslo)),
+                cube.withhold(("sum", oslo)), cube.withhold(("0 * sum",)), cube.opened(),
+                cube.bounds((0, 0), (0, 0), oslo), cube.forced((0, 0), (0, 0)), texts.cube_text(cube),
+                texts.drill(cube, ("town", "month")), texts.drill(cube, ("town", "month"), open_too=False), tuple(cube))
+
+    def test_cubes(self):
+        cube = started()
+        told = [cube.watch("sum"), cube.watch("sum where town in north/oslo"), cube.mark(), cube.store((ALL,))]
+        told.append(self.answers(cube))
+        before = copy.deepcopy(told)
+        cells = copy.deepcopy(cube.dimensions())
+        other = started((NORTH, SOUTH, ALL))
+        handed_in = contents(other)
+        told.append(cube.insert(((0, 5), (3, -1))))
+        told.append(cube.merge(other))
+        told.append(cube.drop((NORTH, SOUTH)))
+        told.append(cube.unwatch("sum"))
+        told.append(cube.back(0))
+        # What was handed out has not changed with the cube, nor has what was handed in.
+        self.assertEqual(told[:len(before)], before)
+        self.assertEqual(cube.dimensions(), cells)
+        self.assertEqual(contents(other), handed_in)
+        for answer in told:
+            self.assertTrue(is_plain(answer), answer)
+
+    def test_answers_change_nothing(self):
+        cube = started()
+        cube.watch("sum")
+        cube.mark()
+        before = contents(cube)
+        first = self.answers(cube)
+        self.assertEqual(self.answers(cube), first)
+        self.assertEqual(contents(cube), before)
+        self.assertEqual(cube.dimensions(), EXAMPLE)
+        self.assertEqual(tuple(cube), REGIONS)
 
     def test_answers_are_tuples(self):
         for space in sample_spaces():

@@ -128,7 +128,8 @@ class NameTest(unittest.TestCase):
         self.refused("sum where town in north and month in may and town in south", TwiceAsked, "town")
         self.refused("sum where month in may and town in north and month in june", TwiceAsked, "month")
         self.refused("sum + (sum where month in may and month in may)", TwiceAsked, "month")
-        self.refused("sum where town in north and month in may and month in june and town in south", TwiceAsked, "month")
+        self.refused("sum where town in north and month in may and month in june and town in south",
+                     TwiceAsked, "month")
 
     def test_dimension_once_in_each_of_two_sums(self):
         question = question_of(example(), "sum where town in north + sum where town in south")

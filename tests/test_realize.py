@@ -90,7 +90,8 @@ class RealizeTest(unittest.TestCase):
         space = example()
         family = (("", ""),) + REGIONS
         self.check_facts(space, family, (45, 30, 15))
-        for wanted in ((46, 30, 15), (44, 30, 15), (0, 30, 15), (45, 31, 15), (45, 30, -15), (10 ** 18 + 1, 10 ** 18, 0)):
+        for wanted in ((46, 30, 15), (44, 30, 15), (0, 30, 15), (45, 31, 15), (45, 30, -15),
+                       (10 ** 18 + 1, 10 ** 18, 0)):
             at_cells = self.check_none(space, family, wanted)
             self.assertEqual(at_cells, [0] * 6)
 

@@ -25,7 +25,8 @@ def pair(one):
 
 def some_fractions():
     """Fractions of both signs, and zero."""
-    return [pair(number) for number in sorted({Fraction(top, bottom) for top in range(-4, 5) for bottom in (1, 2, 3, 6)})]
+    different = {Fraction(top, bottom) for top in range(-4, 5) for bottom in (1, 2, 3, 6)}
+    return [pair(number) for number in sorted(different)]
 
 
 def some_vector(space, seed=0):
