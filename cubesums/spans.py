@@ -12,7 +12,7 @@ def lowest(row):
         common = gcd(common, integer)
         if common == 1:
             return row
-    return [integer // common for integer in row]
+    return [one // common for one in row]
 
 
 def dot(one, two):
