@@ -99,7 +99,8 @@ def _joined(wanted):
     found = [()]
     for grouping in wanted:
         grown = []
-        for some in found:
+        # A copy is walked, because found becomes another name of the list that grows here.
+        for some in list(found):
             grown.append((*some, grouping))
             for at, other in enumerate(some):
                 grown.append((*some[:at], join(other, grouping), *some[at + 1:]))
